@@ -1,0 +1,1 @@
+"""Fascicle: a small language of modules, and bundles of them."""
