@@ -14,7 +14,7 @@ class Cursor:
 
     def __init__(self, text, module):
         self.module = module
-        # How many functions the next token stands in the block of.
+        # A return may stand only inside the block of a function: where this is greater than 0.
         self.functions = 0
         self._tokens = [*tokens(text, module), ("end", None, len(text))]
         self._done = 0

@@ -32,9 +32,6 @@ def deeper(level):
     return level + 1
 
 
-# Items
-
-
 def read_item(cursor):
     """Read an item; return the list of it, or of the two items of an exported declaration."""
     if cursor.key() == "import":
@@ -112,9 +109,6 @@ def read_pair(cursor):
     if cursor.takes("as"):
         return (name, cursor.expect("name"))
     return (name, name)
-
-
-# Statements
 
 
 def read_statement(cursor, level):
@@ -233,9 +227,6 @@ def read_parameters(cursor):
     return tuple(names)
 
 
-# Expressions
-
-
 def read_ended_expression(cursor, level):
     """Read an expression and the semicolon behind it."""
     tree = read_expression(cursor, level)
@@ -306,6 +297,7 @@ def read_arguments(cursor, level):
     """Read the arguments of a call of a level, behind its opening parenthesis."""
     if cursor.takes(")"):
         return ()
+    # The level of the call has grown at its parenthesis already; an argument is one deeper still.
     trees = [read_expression(cursor, deeper(level))]
     while cursor.takes(","):
         trees.append(read_expression(cursor, deeper(level)))
