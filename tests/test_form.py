@@ -16,6 +16,15 @@ INTERFACE = {
                "BadOption", "Thrown", "Weary"),
     "lexer": ("tokens", "is_name"),
     "parser": ("parse",),
+    "graph": ("Graph",),
+    "check": ("checked",),
+    "meaning": ("run",),
+    "link": ("Linked", "link"),
+}
+
+INTERFACE_METHODS = {
+    ("graph", "Graph"): ("order", "module_items", "declared", "imported", "spaces", "resolve", "exports"),
+    ("link", "Linked"): ("statements", "exports", "variables", "with_statements"),
 }
 
 BUILTINS = set(
@@ -44,6 +53,15 @@ ALLOWED_NODES = (
     ast.Compare, ast.IfExp, ast.Starred, ast.JoinedStr, ast.FormattedValue, ast.expr_context, ast.boolop, ast.Add,
     ast.Sub, ast.Mult, ast.FloorDiv, ast.Mod, ast.Not, ast.USub, ast.cmpop,
 )
+
+
+def plain(node, tree, line):
+    """Return True if a node is a plain value, or a dict of these and of functions that are defined above a line."""
+    if isinstance(node, ast.Dict):
+        return all(plain(part, tree, line) for part in [*node.keys, *node.values])
+    if isinstance(node, ast.Name):
+        return any(isinstance(other, ast.FunctionDef) and other.name == node.id and other.lineno < line for other in tree.body)
+    return ast.literal_eval(node) is not None
 
 
 class FormTest(unittest.TestCase):
@@ -89,7 +107,7 @@ class FormTest(unittest.TestCase):
                 if isinstance(node, ast.ImportFrom):
                     bound += [alias.asname or alias.name for alias in node.names]
                 elif isinstance(node, ast.Assign):
-                    self.assertIsNotNone(ast.literal_eval(node.value))
+                    self.assertTrue(plain(node.value, tree, node.lineno), (name, node.lineno))
                     bound += [target.id for target in node.targets]
                 else:
                     bound.append(node.name)
@@ -151,6 +169,22 @@ class FormTest(unittest.TestCase):
         for file, names in INTERFACE.items():
             defined = {node.name for node in self.trees[file].body if isinstance(node, (ast.FunctionDef, ast.ClassDef))}
             self.assertEqual(set(names) - defined, set(), file)
+
+        for (file, name), methods in INTERFACE_METHODS.items():
+            (found,) = [node for node in self.trees[file].body if isinstance(node, ast.ClassDef) and node.name == name]
+            defined = {node.name for node in found.body if isinstance(node, ast.FunctionDef)}
+            self.assertEqual(set(methods) - defined, set(), name)
+
+    def test_no_method_and_attribute_of_one_name(self):
+        stored, methods = set(), set()
+        for _, node in self.nodes():
+            if isinstance(node, ast.Attribute) and isinstance(node.ctx, ast.Store):
+                stored.add(node.attr)
+            if isinstance(node, ast.ClassDef):
+                methods |= {part.name for part in node.body if isinstance(part, ast.FunctionDef)}
+        self.assertEqual(stored & (methods | METHODS), set())
+        read = {node.attr for _, node in self.nodes() if isinstance(node, ast.Attribute)}
+        self.assertEqual(read - stored - methods - METHODS, set())
 
     def test_every_function_and_class_has_a_docstring(self):
         for name, node in self.nodes():
