@@ -1,6 +1,6 @@
 """Checking modules: which names they declare, export, import and use."""
 
-from fascicle.depth import parts
+from fascicle.trees import parts
 from fascicle.errors import Clashing, Fixed, Misused, NoExport, Unknown
 from fascicle.graph import Graph, exported_pairs, statements_of
 from fascicle.scope import Scope, declarations

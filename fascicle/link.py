@@ -1,7 +1,7 @@
 """Linking the modules of an entry: every name becomes the number of its variable."""
 
 from fascicle.check import checked
-from fascicle.depth import WITH_TWO_PARTS
+from fascicle.trees import WITH_TWO_EXPRESSIONS
 from fascicle.graph import statements_of
 from fascicle.scope import Tops, declarations
 
@@ -126,7 +126,7 @@ def link_expression(linker, e, scope):
     if kind == "call":
         function = link_expression(linker, e[1], scope)
         return ("call", function, tuple([link_expression(linker, argument, scope) for argument in e[2]]))
-    if kind in WITH_TWO_PARTS:
+    if kind in WITH_TWO_EXPRESSIONS:
         left = link_expression(linker, e[1], scope)
         return (kind, left, link_expression(linker, e[2], scope))
     if kind == "not":

@@ -6,6 +6,8 @@ from fascicle.scope import Tops, declarations
 BUDGET = 200
 # Integers are those from 0 to one below this.
 INTEGERS = 65536
+# A repeat runs its block less often than this.
+REPEATS = 8
 
 EARLY = ("error", "early")
 

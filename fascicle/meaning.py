@@ -3,11 +3,9 @@
 from fascicle.check import checked
 from fascicle.errors import Thrown, Weary
 from fascicle.graph import statements_of
-from fascicle.machine import INTEGERS, Function, Machine, declare_all, declare_value, shown
+from fascicle.machine import INTEGERS, REPEATS, Function, Machine, declare_all, declare_value, shown
 
 MOST_CALLS = 8
-# A repeat runs its block less often than this.
-REPEATS = 8
 
 KIND = ("error", "kind")
 DEEP = ("error", "deep")

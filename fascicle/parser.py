@@ -1,7 +1,7 @@
 """Reading the text of a module: from its tokens to the trees of its items."""
 
 from fascicle.cursor import Cursor
-from fascicle.depth import deeper_than
+from fascicle.trees import deeper_than
 from fascicle.errors import Oversized
 
 DEEPEST = 12

@@ -20,6 +20,9 @@ INTERFACE = {
     "check": ("checked",),
     "meaning": ("run",),
     "link": ("Linked", "link"),
+    "uses": ("expression_uses", "statement_uses", "block_uses"),
+    "fold": ("fold", "fold_expression", "fold_statement"),
+    "dead": ("dead", "always_ends"),
 }
 
 INTERFACE_METHODS = {
