@@ -15,7 +15,7 @@ EARLY = ("error", "early")
 FIELDS = {
     "Malformed": ("module", "at"), "Oversized": ("limit",), "NoModule": ("name",), "NoExport": ("module", "name"),
     "Clashing": ("module", "name"), "Unknown": ("module", "name"), "Fixed": ("module", "name"),
-    "Misused": ("module", "name"),
+    "Misused": ("module", "name"), "BadOption": ("option",),
 }
 
 

@@ -235,3 +235,70 @@ class Runner:
         if kind == "lt":
             return left < right
         return {"add": left + right, "sub": left - right, "mul": left * right}[kind] & 65535
+
+
+def numbers(tree):
+    """The set of the numbers of variables that are read or assigned somewhere in a linked tree or block."""
+    if not isinstance(tree, tuple) or not tree:
+        return set()
+    own = {tree[1]} if tree[0] in ("var", "set") else set()
+    return own.union(*[numbers(part) for part in tree])
+
+
+HAVING_INDEXES = ("let", "fun", "set", "do", "tell", "throw", "return", "if", "repeat", "try", "block", "ask")
+
+
+def is_block(part):
+    """Whether a part of a tree is a block, or the arguments of a call."""
+    return isinstance(part, tuple) and (not part or isinstance(part[0], tuple))
+
+
+def renamed(tree, names):
+    """A linked tree with names in the place of numbers, and without indexes."""
+    kind = tree[0]
+    if kind in ("int", "bool", "none"):
+        return tree
+    if kind in ("var", "let", "set"):
+        return (kind, names[tree[1]], *[renamed(part, names) for part in tree[2:3]])
+    if kind == "lambda":
+        return (kind, tuple(names[number] for number in tree[1]), *[all_renamed(part, names) for part in tree[2:]])
+    if kind == "fun":
+        return (kind, names[tree[1]], tuple(names[number] for number in tree[2]), all_renamed(tree[3], names))
+    if kind == "try":
+        return (kind, all_renamed(tree[1], names), names[tree[2]], all_renamed(tree[3], names))
+    parts = tree[1:-1] if kind in HAVING_INDEXES else tree[1:]
+    return (kind, *[all_renamed(part, names) if is_block(part) else renamed(part, names) for part in parts])
+
+
+def all_renamed(trees, names):
+    return tuple(renamed(tree, names) for tree in trees)
+
+
+def without_indexes(tree):
+    """A tree, or a part of it, without its indexes."""
+    if not isinstance(tree, tuple) or not tree:
+        return tree
+    parts = tree[:-1] if tree[0] in HAVING_INDEXES else tree
+    return tuple(without_indexes(part) for part in parts)
+
+
+def indexes(trees):
+    """The list of the indexes of the statements and asks in some trees, each before those in it."""
+    found = []
+    for tree in trees:
+        if isinstance(tree, tuple) and tree:
+            found += [tree[-1]] if tree[0] in HAVING_INDEXES else []
+            found += indexes(tree)
+    return found
+
+
+def kinds(trees):
+    """The set of the kinds of some trees and of what is in them."""
+    found = set()
+    for tree in trees:
+        if isinstance(tree, tuple) and tree:
+            found |= kinds(tree) | ({tree[0]} if isinstance(tree[0], str) and tree[0] in KINDS else set())
+    return found
+
+
+KINDS = HAVING_INDEXES + ("int", "bool", "none", "var", "lambda", "call", "not", "add", "sub", "mul", "lt", "eq", "and", "or")

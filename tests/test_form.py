@@ -23,6 +23,10 @@ INTERFACE = {
     "uses": ("expression_uses", "statement_uses", "block_uses"),
     "fold": ("fold", "fold_expression", "fold_statement"),
     "dead": ("dead", "always_ends"),
+    "shake": ("removable", "accepts", "left_out", "shake"),
+    "names": ("short_name", "names_for"),
+    "printer": ("print_linked",),
+    "bundle": ("bundle", "origin"),
 }
 
 INTERFACE_METHODS = {
@@ -54,7 +58,7 @@ ALLOWED_NODES = (
     ast.Try, ast.ExceptHandler, ast.Name, ast.Attribute, ast.Subscript, ast.Slice, ast.Call, ast.Constant, ast.Tuple,
     ast.List, ast.Dict, ast.Set, ast.ListComp, ast.DictComp, ast.comprehension, ast.BoolOp, ast.BinOp, ast.UnaryOp,
     ast.Compare, ast.IfExp, ast.Starred, ast.JoinedStr, ast.FormattedValue, ast.expr_context, ast.boolop, ast.Add,
-    ast.Sub, ast.Mult, ast.FloorDiv, ast.Mod, ast.Not, ast.USub, ast.cmpop,
+    ast.Sub, ast.Mult, ast.FloorDiv, ast.Mod, ast.Not, ast.USub, ast.cmpop, ast.Delete,
 )
 
 
