@@ -254,6 +254,14 @@ AROUND = [lambda s: ("block", (s, do()), 0), lambda s: ("if", A, (s,), (do(),), 
           lambda s: ("try", (s,), 1, (), 0), lambda s: ("try", (), 1, (s,), 0), lambda s: ("fun", 1, (2,), (s,), 0)]
 
 
+class Counting(dict):
+    """Gives each key that is looked up a number, in the order in which they are looked up first."""
+
+    def __missing__(self, key):
+        self[key] = len(self)
+        return self[key]
+
+
 class DeepTest(unittest.TestCase):
     """What has the greatest depth can be read again, whatever parentheses stand in it."""
 
@@ -318,6 +326,19 @@ class MadeProgramsTest(unittest.TestCase):
                 kinds |= slow.kinds(items)
         self.assertEqual(kinds, {"int", "bool", "none", "var", "ask", "lambda", "call", "not", "add", "sub", "mul", "lt", "eq", "and", "or", "let", "fun", "set",
                                  "do", "tell", "throw", "return", "if", "repeat", "try", "block"})
+
+    def test_linking_gives_the_same_variables(self):
+        for linked, names in self.made():
+            text, _ = print_linked(linked, names, "lines")
+            if len(text) <= 20000:
+                again = link({"bundle": text}, "bundle")
+                first, second = Counting(), Counting()
+                self.assertEqual([slow.renamed(statement, first) for _, statement in linked.statements()],
+                                 [slow.renamed(statement, second) for _, statement in again.statements()])
+                self.assertEqual([(name, first[number]) for name, number in linked.exports()],
+                                 [(name, second[number]) for name, number in again.exports()])
+                kinds = [linked.variables()[number][0] for number in first]
+                self.assertEqual(kinds, [again.variables()[number][0] for number in second])
 
     def test_spaces_and_newlines(self):
         for linked, names in self.made():
